@@ -1,0 +1,1 @@
+"""Regionsay: what is said of how lands lie."""
