@@ -89,6 +89,12 @@ def turned(way):
     return TURNED[way]
 
 
+def turned_choice(choice):
+    """The choice of the other to the one, where that of the one to the other is this."""
+    back = [turned(way) for way in choice]
+    return tuple([way for way in WAYS if way in back])
+
+
 def led(one, other):
     """The choice of ways of a to c, where a lies to b in the one way and b to c in the other."""
     return LED[(one, other)]

@@ -99,3 +99,40 @@ def fullest(names, said):
              if all(pair_may_stand(left, right, *told) for told in said)]
     alone = [[plot] for plot in plots if not any(plot in pair for pair in pairs)]
     return alone + pairs
+
+
+def held(sayings):
+    """What is said, as a dict from each two names, both ways round, to a set of ways."""
+    names = sorted({name for one, _, other in sayings for name in (one, other)})
+    table = {}
+    for one in names:
+        for other in names:
+            if one != other:
+                table[one, other] = {way for way in WAYS if all(lets(said, one, way, other) for said in sayings)}
+    return table
+
+
+def lets(saying, one, way, other):
+    if (saying[0], saying[2]) == (one, other):
+        return way in saying[1]
+    if (saying[0], saying[2]) == (other, one):
+        return ROUND.get(way, way) in saying[1]
+    return True
+
+
+def narrow(led, table, one, middle, other):
+    """Narrows such a table by three lands, where led tells what two ways lead to."""
+    through = {way for first in table[one, middle] for last in table[middle, other] for way in led(first, last)}
+    gone = table[one, other] - through
+    table[one, other] = table[one, other] - gone
+    table[other, one] = table[other, one] - {ROUND.get(way, way) for way in gone}
+    return bool(gone)
+
+
+def told(table):
+    """Such a table as the document tells tables."""
+    return {(one, other): in_order(ways) for (one, other), ways in table.items() if one < other}
+
+
+def in_order(ways):
+    return tuple(way for way in WAYS if way in ways)

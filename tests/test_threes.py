@@ -3,13 +3,9 @@ import unittest
 from itertools import combinations, product
 
 import by_words
-from by_words import WAYS
+from by_words import WAYS, in_order
 from regionsay import drawings, threes
 from regionsay.threes import led, led_choices, turned
-
-
-def in_order(ways):
-    return tuple(way for way in WAYS if way in ways)
 
 
 def all_choices():
