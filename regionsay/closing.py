@@ -1,6 +1,6 @@
 """What may still be when all that is said is held against itself by threes."""
 
-from regionsay.errors import NoLand
+from regionsay.errors import refuse_unknown
 from regionsay.sayings import held, lands_said
 from regionsay.tables import narrow_table, table_copy, ways_in
 
@@ -14,12 +14,12 @@ class Closing:
 
     def narrow(self, one, middle, other):
         """Takes the ways of the one to the other to which the middle does not lead; tells whether one went."""
-        self._refuse_unknown([one, middle, other])
+        refuse_unknown(self._names, [one, middle, other])
         return narrow_table(self._table, one, middle, other)
 
     def ways(self, one, other):
         """The choice of the one to the other now."""
-        self._refuse_unknown([one, other])
+        refuse_unknown(self._names, [one, other])
         return ways_in(self._table, one, other)
 
     def table(self):
@@ -37,11 +37,6 @@ class Closing:
                     steps.append((one, middle, other))
                     went = True
         return steps
-
-    def _refuse_unknown(self, names):
-        for name in names:
-            if name not in self._names:
-                raise NoLand(name)
 
 
 def closed(sayings):

@@ -1,6 +1,6 @@
 """What is seen in a drawing: its lands, and how each two of them lie."""
 
-from regionsay.errors import NoLand
+from regionsay.errors import refuse_unknown
 from regionsay.threes import turned
 
 
@@ -11,7 +11,7 @@ def lands(drawing):
 
 def seen(drawing, one, other):
     """The way in which the one land lies to the other."""
-    _refuse_unknown(drawing, [one, other])
+    refuse_unknown(lands(drawing), [one, other])
     return _way(_plots(drawing), _neighbours(drawing), one, other)
 
 
@@ -46,13 +46,6 @@ def trimmed(drawing):
         else:
             at += 1
     return kept
-
-
-def _refuse_unknown(drawing, names):
-    known = lands(drawing)
-    for name in names:
-        if name not in known:
-            raise NoLand(name)
 
 
 def _plots(drawing):

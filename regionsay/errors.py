@@ -46,6 +46,13 @@ class BadText(LandError):
         self.row = row
 
 
+def refuse_unknown(known, names):
+    """Refuses, with NoLand, the first of the names that is none of the known ones."""
+    for name in names:
+        if name not in known:
+            raise NoLand(name)
+
+
 def _copied(part):
     """A paper, or a part of one, with no list shared."""
     if not isinstance(part, (list, tuple)):

@@ -33,6 +33,11 @@ def refuse_bad(sayings):
             raise BadSaying(at, why)
 
 
+def can_be_alone(saying):
+    """Whether a saying is good by itself."""
+    return _fault([], saying) is None
+
+
 def is_name(text):
     """Whether a text is a name."""
     return 1 <= len(text) <= LONGEST_NAME and all("a" <= sign <= "z" for sign in text)

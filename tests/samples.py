@@ -14,6 +14,20 @@ NEEDS_CASES = [
     ("b", ("over", "hascore"), "c"), ("b", ("meets", "incore"), "d"), ("c", ("inrim", "hasrim"), "d"),
 ]
 
+# Narrowing alone takes no last way here, either, and it takes cases within cases to show that none can be.
+HARD = [
+    ("a", ("apart", "meets", "over", "same", "inrim", "hasrim", "hascore"), "b"),
+    ("a", ("meets", "over", "inrim", "hasrim"), "c"), ("a", ("apart", "same", "inrim", "incore"), "d"),
+    ("a", ("apart", "meets", "hasrim"), "e"), ("a", ("meets", "same", "inrim", "incore", "hascore"), "f"),
+    ("b", ("same", "inrim", "incore", "hasrim", "hascore"), "c"), ("b", ("over", "same", "incore", "hascore"), "d"),
+    ("b", ("apart", "meets", "same", "inrim", "hascore"), "e"), ("b", ("apart", "meets", "same", "inrim"), "f"),
+    ("c", ("apart", "meets", "same", "inrim", "incore"), "d"), ("c", ("over", "incore", "hasrim"), "e"),
+    ("c", ("over", "same", "inrim", "incore", "hascore"), "f"),
+    ("d", ("apart", "meets", "same", "incore", "hasrim", "hascore"), "e"),
+    ("d", ("apart", "meets", "same", "inrim"), "f"),
+    ("e", ("apart", "over", "same", "inrim", "hasrim", "hascore"), "f"),
+]
+
 GOOD = [
     [],
     [("a", WAYS, "b")],
@@ -28,6 +42,7 @@ GOOD = [
     [("f", ("incore",), "e"), ("e", ("incore",), "d"), ("d", ("incore",), "c"), ("c", ("incore",), "b"),
      ("b", ("incore",), "a")],
     NEEDS_CASES,
+    HARD,
     THIRTY,
 ]
 

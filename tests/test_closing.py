@@ -6,6 +6,7 @@ from random import Random
 
 import by_words
 from by_words import WAYS
+from looks import names_of
 from regionsay.closing import Closing, closed
 from regionsay.drawings import holds, sight
 from regionsay.errors import LandError, NoLand
@@ -15,10 +16,6 @@ from samples import GOOD, NEEDS_CASES, kept, mixed
 
 LISTS = GOOD + [mixed(seed) for seed in range(60)]
 CHAIN = [("a", ("inrim",), "b"), ("b", ("incore",), "c"), ("c", ("over", "incore"), "d")]
-
-
-def names_of(sayings):
-    return sorted({name for one, _, other in sayings for name in (one, other)})
 
 
 def closed_by_words(sayings, threes):

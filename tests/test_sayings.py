@@ -9,7 +9,10 @@ from regionsay import sayings as sayings_file
 from regionsay.closing import Closing, closed
 from regionsay.errors import BadSaying, LandError
 from regionsay.papers import is_paper
+from regionsay.quarrels import needed, quarrel
 from regionsay.sayings import held
+from regionsay.search import follows, may, settled
+from regionsay.texts import sayings_text
 from regionsay.threes import turned
 from samples import BAD, GOOD, THIRTY, mixed
 
@@ -40,6 +43,10 @@ class TestBadSaying(unittest.TestCase):
             self.assertEqual(refusal(lambda: closed(sayings)), (at, why), sayings)
             for paper in (([], ("none", "a", "b")), ([("a", "x", "a")], ("cases", "y", "y", []))):
                 self.assertEqual(refusal(lambda: is_paper(sayings, paper)), (at, why), sayings)
+            for asked in (settled, quarrel, needed, sayings_text):
+                self.assertEqual(refusal(lambda: asked(sayings)), (at, why), sayings)
+            self.assertEqual(refusal(lambda: may(sayings, "x", "x")), (at, why), sayings)
+            self.assertEqual(refusal(lambda: follows(sayings[:-1], sayings[-1])), (at, why), sayings)
 
     def test_it_is_a_refusal(self):
         with self.assertRaises(LandError):
